@@ -1,0 +1,1 @@
+"""Who's ill, by tests of many at once."""
