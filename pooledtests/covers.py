@@ -7,6 +7,9 @@ single person is the crowd with that one bit. A crowd hits a pool if somebody is
 # Counting by missed pools keeps a number for each choice of pools: with more than these, too many.
 MOST_MISSED = 20
 
+# How many pools are counted before it is asked who is left.
+FEW_POOLS = 32
+
 
 def crowd_of(people):
     """The crowd of the people in a list, which may tell somebody twice."""
@@ -43,7 +46,22 @@ def in_all_others(pools, one, crowd):
 
 def in_at_least(pools, crowd, least):
     """Who of the crowd is in at least so many of the pools."""
-    planes = bit_planes(pools)
+    return counted_at_least(bit_planes(pools), crowd, least)
+
+
+def in_at_most(pools, crowd, most):
+    """Who of the crowd is in at most so many of the pools; a few pools at a time, as often nobody is left soon."""
+    planes = []
+    for start in range(0, len(pools), FEW_POOLS):
+        planes = added_planes(planes, bit_planes([pool & crowd for pool in pools[start:start + FEW_POOLS]]))
+        crowd ^= counted_at_least(planes, crowd, most + 1)
+        if not crowd:
+            break
+    return crowd
+
+
+def counted_at_least(planes, crowd, least):
+    """Who of the crowd has at least this number, where the numbers are told in bit planes."""
     if least >> len(planes):
         return 0
     more = 0
@@ -73,6 +91,21 @@ def bit_planes(pools):
         planes.append(level[0])
         level = carries
     return planes
+
+
+def added_planes(planes, others):
+    """The bit planes of the sums of two numbers of each person."""
+    sums = []
+    carry = 0
+    for k in range(max(len(planes), len(others))):
+        a = planes[k] if k < len(planes) else 0
+        b = others[k] if k < len(others) else 0
+        odd = a ^ b
+        sums.append(odd ^ carry)
+        carry = a & b | odd & carry
+    if carry:
+        sums.append(carry)
+    return sums
 
 
 def too_many_apart(pools, crowd, most):

@@ -1,0 +1,161 @@
+"""Plans, pools that are told beforehand: each call about them stands by itself."""
+
+from pooledtests.book import MOST_PEOPLE, WRONG
+from pooledtests.covers import crowd_of, in_at_least, in_at_most, not_hit, people_of
+
+MOST_POOLS = 1024
+MOST_HIDING = 3
+MOST_APART = 2
+
+# Going through all trios at once takes numbers of n times n bits: with more people, too long ones.
+MOST_IN_TRIOS = 240
+
+
+def disjunct(m, n, d, e, rows):
+    """Whether the plan hides nobody of n behind d with e to spare, as 1 or 0."""
+    if m > MOST_POOLS or n > MOST_PEOPLE or d > MOST_HIDING:
+        return [WRONG]
+    everybody = (1 << n) - 1
+    pools = [crowd_of(row) & everybody for row in rows]
+    if d == 3 and trios_are_shorter(pools, n, e):
+        return [0 if Trios(pools, n).hide_somebody(e) else 1]
+    for person in range(n):
+        theirs = pools_with(pools, person)
+        if some_hit(theirs, everybody ^ (1 << person), d, len(theirs) - e):
+            return [0]
+    return [1]
+
+
+def pools_with(pools, person):
+    """The pools that this person is in."""
+    one = 1 << person
+    return [pool for pool in pools if pool & one]
+
+
+def busy_others(pools, crowd, most, enough):
+    """Who of the crowd hits an equal share at least, if so many people are to hit enough of the pools."""
+    return in_at_least(pools, crowd, (enough + most - 1) // most)
+
+
+def some_hit(pools, crowd, most, enough):
+    """Whether at most so many of the crowd hit enough of the pools."""
+    if enough <= 0:
+        return True
+    if most == 0:
+        return False
+    busy = busy_others(pools, crowd, most, enough)
+    if most == 1:
+        return busy > 0
+    while busy:
+        one = busy & -busy
+        rest = not_hit(pools, one)
+        if some_hit(rest, crowd ^ one, most - 1, enough - len(pools) + len(rest)):
+            return True
+        # Nor does it help to take somebody who hits nothing but what this person hits too.
+        crowd &= in_some_of(rest)
+        busy &= crowd
+    return False
+
+
+def in_some_of(pools):
+    """Who is in one of the pools, or in several."""
+    crowd = 0
+    for pool in pools:
+        crowd |= pool
+    return crowd
+
+
+def trios_are_shorter(pools, n, e):
+    """Whether to go through all trios at once: a guess, from how few of them can be passed over one by one."""
+    if n <= MOST_HIDING or n > MOST_IN_TRIOS:
+        return False
+    everybody = (1 << n) - 1
+    busy = 0
+    for person in range(n):
+        theirs = pools_with(pools, person)
+        if len(theirs) <= e:
+            return False
+        busy += len(people_of(busy_others(theirs, everybody ^ (1 << person), MOST_HIDING, len(theirs) - e)))
+    return 20 * busy > 19 * n * (n - 1)
+
+
+class Trios:
+    """Everybody with regard to any three others, for n people of whom there are more than three.
+
+    For two of the three, all pairs of the third and somebody else are gone through at once: they are a crowd
+    too, in which the pair of a third c and somebody i has the place n * c + i.
+    """
+
+    def __init__(self, pools, n):
+        self.n = n
+        self.pools = pools
+        self.everyone = (1 << n) - 1
+        self.thirds = self.places_of_thirds(self.everyone)
+        self.twins = crowd_of([n * person + person for person in range(n)])
+        # For each pool the pairs of a third who is not in it and somebody who is.
+        self.pairs_in = {}
+        for pool in pools:
+            self.pairs_in[pool] = self.places_of_thirds(self.everyone ^ pool) * pool
+
+    def places_of_thirds(self, crowd):
+        """The places n * c for each c of the crowd; times another crowd, all pairs of one of each."""
+        return crowd_of([self.n * person for person in people_of(crowd)])
+
+    def hide_somebody(self, e):
+        """Whether somebody is alone in at most e pools with regard to some three others."""
+        for a in range(2, self.n):
+            rest = not_hit(self.pools, 1 << a)
+            for b in range(1, a):
+                pools = [self.pairs_in[pool] for pool in rest if not pool >> b & 1]
+                if in_at_most(pools, self.pairs_beside(a, b), e):
+                    return True
+        return False
+
+    def pairs_beside(self, a, b):
+        """All pairs of a third below b and somebody who is none of the three."""
+        thirds = self.thirds & ((1 << self.n * b) - 1)
+        pairs = thirds * (self.everyone ^ (1 << a) ^ (1 << b))
+        return pairs ^ (pairs & self.twins)
+
+
+def apart(m, n, d, rows):
+    """Whether the plan tells apart sets of at most d of n, as 1 or 0."""
+    if m > MOST_POOLS or n > MOST_PEOPLE or d > MOST_APART:
+        return [WRONG]
+    if d == 0:
+        return [1]
+    left = marks_of_each(n, rows)
+    for k in range(len(rows)):
+        # Sets whose first positive test is another are told apart from these anyway.
+        inside = [mark for mark in left if mark >> k & 1]
+        left = [mark for mark in left if not mark >> k & 1]
+        pairs = marks_of_pairs(inside, left) if d == 2 else []
+        if some_same(inside + pairs):
+            return [0]
+    # Who is in no pool makes no test positive, as the empty set does.
+    return [0 if left else 1]
+
+
+def marks_of_each(n, rows):
+    """For each of n people the pools they are in, as a whole number whose bit k stands for pool k."""
+    marks = [0] * n
+    for k, row in enumerate(rows):
+        for person in row:
+            if person < n:
+                marks[person] |= 1 << k
+    return marks
+
+
+def marks_of_pairs(inside, left):
+    """The pools that two people hit, for each two of whom one is inside at least."""
+    marks = []
+    for k, mark in enumerate(inside):
+        marks.extend([mark | other for other in inside[k + 1:]])
+        marks.extend([mark | other for other in left])
+    return marks
+
+
+def some_same(marks):
+    """Whether two of the marks are the same; by sorting, as Python's hashes of such numbers fall together."""
+    ordered = sorted(marks)
+    return any([a == b for a, b in zip(ordered, ordered[1:])])
