@@ -1,11 +1,13 @@
 """Plans, pools that are told beforehand: each call about them stands by itself."""
 
-from pooledtests.book import MOST_PEOPLE, WRONG
+from pooledtests.book import MOST_PEOPLE, WRONG, tell
 from pooledtests.covers import crowd_of, in_at_least, in_at_most, not_hit, people_of
 
 MOST_POOLS = 1024
 MOST_HIDING = 3
 MOST_APART = 2
+MOST_COEFFICIENTS = 4
+PRIMES = (2, 3, 5, 7, 11, 13, 17, 19, 23, 29, 31)
 
 # Going through all trios at once takes numbers of n times n bits: with more people, too long ones.
 MOST_IN_TRIOS = 240
@@ -159,3 +161,46 @@ def some_same(marks):
     """Whether two of the marks are the same; by sorting, as Python's hashes of such numbers fall together."""
     ordered = sorted(marks)
     return any([a == b for a, b in zip(ordered, ordered[1:])])
+
+
+def codes(q, k, n):
+    """The plan by polynomials for n people: how many pools it has, then each as how many it has and they."""
+    if q not in PRIMES or k == 0 or k > MOST_COEFFICIENTS:
+        return [WRONG]
+    if n == 0 or n > MOST_PEOPLE or n > power(q, k):
+        return [WRONG]
+    answer = [q * q]
+    for x in range(q):
+        pools = [[] for y in range(q)]
+        for person in range(n):
+            pools[value_at(x, person, q)].append(person)
+        for pool in pools:
+            answer.append(len(pool))
+            answer.extend(pool)
+    return answer
+
+
+def power(base, exponent):
+    product = 1
+    for step in range(exponent):
+        product *= base
+    return product
+
+
+def value_at(x, person, q):
+    """The value at x, modulo q, of the polynomial that has the person's digits in base q as its coefficients."""
+    total = 0
+    factor = 1
+    while person:
+        total += person % q * factor
+        factor *= x
+        person //= q
+    return total % q
+
+
+def decode(m, n, e, said, rows):
+    """Who of n is in at most e pools that are said to be negative: how many they are, then they."""
+    if m > MOST_POOLS or n > MOST_PEOPLE:
+        return [WRONG]
+    negative = [crowd_of(row) for row, positive in zip(rows, said) if not positive]
+    return tell(in_at_most(negative, (1 << n) - 1, e))

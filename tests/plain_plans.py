@@ -24,3 +24,23 @@ def apart(m, n, d, rows):
 
 def sets_of_at_most(d, people):
     return [some for size in range(d + 1) for some in combinations(people, size)]
+
+
+def codes(q, k, n):
+    is_prime = q >= 2 and all(q % other for other in range(2, min(q, 100)))
+    if not (q <= 31 and is_prime and 1 <= k <= 4 and 1 <= n <= 1024 and n <= q ** k):
+        return [-1]
+    answer = [q * q]
+    for x in range(q):
+        for y in range(q):
+            pool = [i for i in range(n) if sum(i // q ** t % q * x ** t for t in range(k)) % q == y]
+            answer += [len(pool)] + pool
+    return answer
+
+
+def decode(m, n, e, said, rows):
+    if m > 1024 or n > 1024:
+        return [-1]
+    people = [person for person in range(n)
+              if len([k for k in range(m) if said[k] == 0 and person in rows[k]]) <= e]
+    return [len(people)] + people

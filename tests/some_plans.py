@@ -32,3 +32,15 @@ def plan_at_random(chance, n, m, share):
         chance.shuffle(row)
         rows.append(row)
     return rows
+
+
+def taken_apart(answer):
+    """The pools that codes answered, each as a list."""
+    pools = []
+    place = 1
+    while place < len(answer):
+        pools.append(answer[place + 1:place + 1 + answer[place]])
+        place += 1 + answer[place]
+    assert place == len(answer), "the last pool is shorter than told"
+    assert len(pools) == answer[0], "not as many pools as told"
+    return pools

@@ -13,6 +13,8 @@ ROWS = [[2, 0, 2], [1, 0, 9], [], [2, 1], [1, 0, 9]]
 ARGUMENTS = {
     "disjunct": ["m", "n", "d", "e", "rows"],
     "apart": ["m", "n", "d", "rows"],
+    "codes": ["q", "k", "n"],
+    "decode": ["m", "n", "e", "said", "rows"],
 }
 
 # Calls that are answered and such that are refused.
@@ -26,6 +28,11 @@ CALLS = (
     ("apart", (5, 3, 2, ROWS)),
     ("apart", (5, 3, 3, ROWS)),
     ("apart", (1025, 3, 1, [])),
+    ("codes", (3, 2, 7)),
+    ("codes", (4, 2, 7)),
+    ("decode", (5, 4, 1, [0, 1, 0, 0, 1], ROWS)),
+    ("decode", (5, 1025, 1, [0, 1, 0, 0, 1], ROWS)),
+    ("decode", (1025, 4, 1, [], [])),
 )
 
 
