@@ -1,16 +1,21 @@
 """Plans, pools that are told beforehand: each call about them stands by itself."""
 
 from pooledtests.book import MOST_PEOPLE, WRONG, tell
-from pooledtests.covers import crowd_of, in_at_least, in_at_most, not_hit, people_of
+from pooledtests.covers import crowd_of, in_at_least, in_at_most, not_hit, people_of, subsets
 
 MOST_POOLS = 1024
 MOST_HIDING = 3
 MOST_APART = 2
 MOST_COEFFICIENTS = 4
 PRIMES = (2, 3, 5, 7, 11, 13, 17, 19, 23, 29, 31)
+MOST_DEN = 65535
+LARGEST_GROUP = 64
 
-# Going through all trios at once takes numbers of n times n bits: with more people, too long ones.
-MOST_IN_TRIOS = 240
+# With more people it takes too long to go through all trios.
+MOST_IN_TRIOS = 220
+
+# How many pairs are looked at together: few enough for their crowds to be numbers of less than 900 digits.
+MOST_PAIRS = 2600
 
 
 def disjunct(m, n, d, e, rows):
@@ -84,40 +89,57 @@ def trios_are_shorter(pools, n, e):
 class Trios:
     """Everybody with regard to any three others, for n people of whom there are more than three.
 
-    For two of the three, all pairs of the third and somebody else are gone through at once: they are a crowd
-    too, in which the pair of a third c and somebody i has the place n * c + i.
+    For two of the three, all pairs of the third and somebody else are gone through at once, for some thirds
+    at a time. The pairs are a crowd too, in which a third c and somebody i have the place n * (c - first) + i,
+    where first is the first of these thirds.
     """
 
     def __init__(self, pools, n):
         self.n = n
         self.pools = pools
         self.everyone = (1 << n) - 1
-        self.thirds = self.places_of_thirds(self.everyone)
-        self.twins = crowd_of([n * person + person for person in range(n)])
-        # For each pool the pairs of a third who is not in it and somebody who is.
+        self.step = MOST_PAIRS // n
+        self.thirds = self.places_of_thirds(list(range(self.step)))
+        self.twins = crowd_of([(n + 1) * k for k in range(self.step)])
         self.pairs_in = {}
-        for pool in pools:
-            self.pairs_in[pool] = self.places_of_thirds(self.everyone ^ pool) * pool
+        for first in range(0, n, self.step):
+            self.pairs_in[first] = self.pairs_by_pool(first)
 
-    def places_of_thirds(self, crowd):
-        """The places n * c for each c of the crowd; times another crowd, all pairs of one of each."""
-        return crowd_of([self.n * person for person in people_of(crowd)])
+    def places_of_thirds(self, thirds):
+        """The places of these thirds, told from the first on; times a crowd, the pairs of each with each of it."""
+        return crowd_of([self.n * third for third in thirds])
+
+    def pairs_by_pool(self, first):
+        """For each pool the pairs of a third who is not in it and somebody who is."""
+        pairs = {}
+        for pool in self.pools:
+            outside = (self.everyone ^ pool) >> first & ((1 << self.step) - 1)
+            pairs[pool] = self.places_of_thirds(people_of(outside)) * pool
+        return pairs
 
     def hide_somebody(self, e):
         """Whether somebody is alone in at most e pools with regard to some three others."""
         for a in range(2, self.n):
             rest = not_hit(self.pools, 1 << a)
             for b in range(1, a):
-                pools = [self.pairs_in[pool] for pool in rest if not pool >> b & 1]
-                if in_at_most(pools, self.pairs_beside(a, b), e):
+                if self.hide_with(a, b, not_hit(rest, 1 << b), e):
                     return True
         return False
 
-    def pairs_beside(self, a, b):
-        """All pairs of a third below b and somebody who is none of the three."""
-        thirds = self.thirds & ((1 << self.n * b) - 1)
+    def hide_with(self, a, b, rest, e):
+        """Whether a, b and a third below b hide somebody, where the rest are the pools without a and b."""
+        for first in range(0, b, self.step):
+            pairs_in = self.pairs_in[first]
+            if in_at_most([pairs_in[pool] for pool in rest], self.pairs_beside(a, b, first), e):
+                return True
+        return False
+
+    def pairs_beside(self, a, b, first):
+        """All pairs of a third below b, from the first on, and somebody who is none of the three."""
+        how_many = min(self.step, b - first)
+        thirds = self.thirds & ((1 << self.n * how_many) - 1)
         pairs = thirds * (self.everyone ^ (1 << a) ^ (1 << b))
-        return pairs ^ (pairs & self.twins)
+        return pairs ^ (pairs & (self.twins << first))
 
 
 def apart(m, n, d, rows):
@@ -204,3 +226,33 @@ def decode(m, n, e, said, rows):
         return [WRONG]
     negative = [crowd_of(row) for row, positive in zip(rows, said) if not positive]
     return tell(in_at_most(negative, (1 << n) - 1, e))
+
+
+def size(num, den):
+    """The size of groups for which a person costs fewest tests on the average, where num in den are ill."""
+    if num > den or den == 0 or den > MOST_DEN:
+        return [WRONG]
+    best = 1
+    # What a person saves against a test alone is the fraction saved / parts, kept as two whole numbers to be exact.
+    saved = 0
+    parts = 1
+    well_power = den - num
+    den_power = den
+    for group in range(2, LARGEST_GROUP + 1):
+        well_power *= den - num
+        den_power *= den
+        # Against 1 alone, 1 / group + 1 - well_power / den_power saves well_power / den_power - 1 / group.
+        group_saved = group * well_power - den_power
+        group_parts = group * den_power
+        if group_saved * parts > saved * group_parts:
+            best = group
+            saved = group_saved
+            parts = group_parts
+    return [best]
+
+
+def needed(n, d):
+    """The least b for which 2^b is no less than the number of sets of at most d of n."""
+    if d > n or n > MOST_PEOPLE:
+        return [WRONG]
+    return [(subsets(n, d) - 1).bit_length()]

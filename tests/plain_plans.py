@@ -1,6 +1,8 @@
 """The document's words about plans gone through one by one, slowly: what the program is compared with."""
 
+from fractions import Fraction
 from itertools import combinations
+from math import comb
 
 
 def disjunct(m, n, d, e, rows):
@@ -44,3 +46,26 @@ def decode(m, n, e, said, rows):
     people = [person for person in range(n)
               if len([k for k in range(m) if said[k] == 0 and person in rows[k]]) <= e]
     return [len(people)] + people
+
+
+def size(num, den):
+    if num > den or den == 0 or den > 65535:
+        return [-1]
+    costs = group_costs(num, den)
+    return [1 + costs.index(min(costs))]
+
+
+def group_costs(num, den):
+    """What a person costs in groups of 1 to 64."""
+    well = 1 - Fraction(num, den)
+    return [Fraction(1)] + [Fraction(1, s) + 1 - well ** s for s in range(2, 65)]
+
+
+def needed(n, d):
+    if d > n or n > 1024:
+        return [-1]
+    number = sum(comb(n, k) for k in range(d + 1))
+    b = 0
+    while 2 ** b < number:
+        b += 1
+    return [b]

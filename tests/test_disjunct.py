@@ -200,6 +200,24 @@ class Large(unittest.TestCase):
                             left = min(left, (marks[person] & free).bit_count())
         self.boundary(n, 3, left, rows)
 
+    def test_one_trio_hides_one_person(self):
+        chance = random.Random(2)
+        rows = [chance.sample(range(70), 35) for k in range(400)]
+        self.assertEqual(disjunct(400, 70, 3, 1, rows), [1])
+        for hidden, trio in ((69, (0, 1, 2)), (0, (1, 2, 3)), (5, (0, 30, 69)), (40, (41, 42, 43)), (0, (66, 67, 68)),
+                             (66, (67, 68, 69)), (33, (10, 44, 69)), (68, (50, 51, 69)), (36, (35, 37, 38)),
+                             (37, (36, 38, 69)), (51, (3, 52, 53)), (60, (59, 61, 62))):
+            told = [list(row) for row in rows]
+            for k, row in enumerate(told):
+                if hidden in row and not any(other in row for other in trio):
+                    row.append(trio[k % 3])
+            self.assertEqual(disjunct(400, 70, 3, 0, told), [0], (hidden, trio))
+            self.assertEqual(disjunct(400, 70, 2, 0, told), [1], (hidden, trio))
+            # One pool that is left to the hidden is enough, where none is to spare.
+            told.append([hidden])
+            self.assertEqual(disjunct(401, 70, 3, 0, told), [1], (hidden, trio))
+            self.assertEqual(disjunct(401, 70, 3, 1, told), [0], (hidden, trio))
+
     def test_a_thousand_people(self):
         chance = random.Random(4)
         rows = [chance.sample(range(1024), 93) for k in range(600)]

@@ -1,5 +1,8 @@
 """How calls are handed in and answers given back, and what is left untouched."""
 
+import contextlib
+import inspect
+import io
 import unittest
 
 from lines import FOUND, ILL, NEXT, WELL, begin, certain, drop, fits, least, search, sets, test, told
@@ -10,6 +13,15 @@ LINE = (begin(6) + test(1, [4, 1, 4]) + test(0, [0, 5]) + test(2, [1]) + WELL + 
 
 
 class Interface(unittest.TestCase):
+    def test_its_name_and_argument(self):
+        self.assertEqual(list(inspect.signature(answers).parameters), ["calls"])
+
+    def test_nothing_is_printed(self):
+        said = io.StringIO()
+        with contextlib.redirect_stdout(said), contextlib.redirect_stderr(said):
+            answers(LINE)
+        self.assertEqual(said.getvalue(), "")
+
     def test_one_list_of_answers(self):
         self.assertEqual(answers(LINE), [
             1, 0,

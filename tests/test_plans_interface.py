@@ -7,6 +7,7 @@ import io
 import unittest
 
 from pooledtests import plans
+from some_plans import taken_apart
 
 ROWS = [[2, 0, 2], [1, 0, 9], [], [2, 1], [1, 0, 9]]
 
@@ -15,6 +16,8 @@ ARGUMENTS = {
     "apart": ["m", "n", "d", "rows"],
     "codes": ["q", "k", "n"],
     "decode": ["m", "n", "e", "said", "rows"],
+    "size": ["num", "den"],
+    "needed": ["n", "d"],
 }
 
 # Calls that are answered and such that are refused.
@@ -33,6 +36,10 @@ CALLS = (
     ("decode", (5, 4, 1, [0, 1, 0, 0, 1], ROWS)),
     ("decode", (5, 1025, 1, [0, 1, 0, 0, 1], ROWS)),
     ("decode", (1025, 4, 1, [], [])),
+    ("size", (3, 100)),
+    ("size", (0, 0)),
+    ("needed", (20, 7)),
+    ("needed", (7, 20)),
 )
 
 
@@ -53,6 +60,16 @@ class Interface(unittest.TestCase):
             given = call(name, arguments)
             self.assertIs(type(given), list)
             self.assertEqual({type(number) for number in given}, {int})
+
+    def test_how_many_numbers_are_given_back(self):
+        for name, arguments in CALLS:
+            given = call(name, arguments)
+            if name in ("disjunct", "apart", "size", "needed") or given[0] < 0:
+                self.assertEqual(len(given), 1)
+            elif name == "decode":
+                self.assertEqual(len(given), 1 + given[0])
+            else:
+                self.assertEqual(len(taken_apart(given)), arguments[0] * arguments[0])
 
     def test_what_is_handed_in_stays(self):
         for name, arguments in CALLS:
