@@ -98,7 +98,7 @@ class Trios:
         self.n = n
         self.pools = pools
         self.everyone = (1 << n) - 1
-        self.step = MOST_PAIRS // n
+        self.step = min(n, MOST_PAIRS // n)
         self.thirds = self.places_of_thirds(list(range(self.step)))
         self.twins = crowd_of([(n + 1) * k for k in range(self.step)])
         self.pairs_in = {}
